@@ -1,6 +1,7 @@
-"""The codes that a page is made of, as texts of 0 and 1, and how a run is written with them."""
+"""The codes that a page is made of, as texts of 0 and 1: how a run is written with them, what they say."""
 
 WHITE = 0
+BLACK = 1
 
 # Runs of white from 0 to 63.
 WHITE_SHORT = (
@@ -56,6 +57,9 @@ BOTH_LONG = (
 
 LONGEST = 2560
 
+# How many bits a code has at the most.
+LONGEST_CODE = 13
+
 # The ways of a row by the one above.
 PASSED_OVER = "0001"
 ACROSS = "001"
@@ -95,3 +99,21 @@ def run_code(colour, length):
 def straight_code(shift):
     """The bits of a change so far to the right of the one above, to its left below 0."""
     return STRAIGHT[STRAIGHT_REACH + shift]
+
+
+def run_lengths(colour):
+    """How long a run each code of a colour says."""
+    lengths = {}
+    for length in range(64):
+        lengths[short_code(colour, length)] = length
+    for sixty_fours in range(1, LONGEST // 64 + 1):
+        lengths[long_code(colour, sixty_fours)] = sixty_fours * 64
+    return lengths
+
+
+def way_shifts():
+    """Each way's code, with how far to the right of the change above it leads if it's a straight one."""
+    shifts = {PASSED_OVER: None, ACROSS: None}
+    for shift in range(-STRAIGHT_REACH, STRAIGHT_REACH + 1):
+        shifts[straight_code(shift)] = shift
+    return shifts

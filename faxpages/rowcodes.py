@@ -29,6 +29,27 @@ def row_changes(picture, start, width):
     return with_ends(changes, width)
 
 
+def bytes_of_row(changes, width):
+    """The bytes of a row, 0 in the bits behind its width."""
+    row = []
+    # The byte that the row stands in, and each byte behind it, as they are if no more changes come.
+    value = 0
+    behind = 0
+    for place in changes:
+        if place == width:
+            break
+        if place // 8 > len(row):
+            row.append(value)
+            row.extend([behind] * (place // 8 - len(row)))
+            value = behind
+        value ^= 255 >> (place % 8)
+        behind ^= 255
+    row.append(value)
+    row.extend([behind] * ((width + 7) // 8 - len(row)))
+    row[-1] &= 255 << (-width % 8)
+    return row
+
+
 def codes_alone(here, width):
     """The codes of a row alone: its runs in turns, white first."""
     codes = []
@@ -48,6 +69,11 @@ def first_behind(changes, index, place):
     return index
 
 
+def opposite_from(index, colour):
+    """The index, from the given one on, of the first change to the other colour than the given one."""
+    return index + (index + colour) % 2
+
+
 def across_code(colour, place, change, change_after):
     # Before the row (-1) the run is counted from the row's first point.
     first_run = change - max(place, 0)
@@ -64,7 +90,7 @@ def codes_by_above(above, here, width):
         # Each change that is coded turns the colour, which is white at first.
         colour = index % 2
         index_above = first_behind(above, index_above, place)
-        opposite = index_above + (index_above + colour) % 2
+        opposite = opposite_from(index_above, colour)
         b1 = above[opposite]
         b2 = above[opposite + 1]
         a1 = here[index]

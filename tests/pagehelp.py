@@ -1,5 +1,7 @@
 """What the tests share: the document's codes, pictures drawn as texts, and its words taken point by point."""
 
+import re
+
 # The document's codes, set down here once more so that a slip in the program's own list is seen.
 WHITE_TO_63 = """
 00110101 000111 0111 1000 1011 1100 1110 1111 10011 10100 00111 01000 001000 000011 110100 110101
@@ -46,11 +48,19 @@ EOL = "000000000001"
 END_OF_KIND = (EOL * 6, (EOL + "1") * 6, EOL * 2)
 
 PLENTY = 4294967295
+MOST_ROWS = 16384
+
+STRAIGHT = {"1": 0, "011": 1, "000011": 2, "0000011": 3, "010": -1, "000010": -2, "0000010": -3}
+WAYS = ["0001", "001"] + list(STRAIGHT)
+
+
+def plain(bits):
+    """A text of 0 and 1 without the blanks that only make it easier to read."""
+    return "".join(bits.split())
 
 
 def bytes_of(bits):
-    """The bytes of a text of 0 and 1, in which blanks only make it easier to read."""
-    bits = "".join(bits.split())
+    bits = plain(bits)
     bits += "0" * (-len(bits) % 8)
     return [int(bits[i:i + 8], 2) for i in range(0, len(bits), 8)]
 
@@ -114,7 +124,7 @@ def by_above_bits(above, row):
     bits = ""
     a = -1
     colour = 0
-    straight = {0: "1", 1: "011", 2: "000011", 3: "0000011", -1: "010", -2: "000010", -3: "0000010"}
+    straight = {shift: code for code, shift in STRAIGHT.items()}
     while a < len(row):
         b1 = change_behind(above, a, [1 - colour])
         b2 = change_behind(above, b1, [0, 1])
@@ -148,3 +158,172 @@ def page_bits(kind, k, width, rows):
             bits += EOL + "0" + by_above_bits(above, row)
         above = row
     return bits + END_OF_KIND[kind]
+
+
+def answer_of_rows(rows):
+    """What reading answers of a page of these rows."""
+    return [len(rows)] + picture_of(rows)
+
+
+def to_byte_s_end(kind, bits):
+    """A page's bits with as many ahead that they end where a byte does, for data that is to end there.
+
+    More zeros before a first end of line are let, and so are more white rows of kind 2.
+    """
+    bits = plain(bits)
+    return "001"[kind] * (-len(bits) % 8) + bits
+
+
+def ahead_of_alone(kind, width):
+    """What may stand ahead of a row alone: of the first one and of later ones, as many texts."""
+    if kind == 0:
+        white = EOL + run_bits(0, width)
+        return [EOL, white + EOL, white + white + "000" + EOL]
+    white = EOL + "1" + run_bits(0, width)
+    return [EOL + "1", white + EOL + "1", white + EOL + "0 1" + EOL + "1"]
+
+
+def ahead_of_by_above(above):
+    """What may stand ahead of a row by the one above, which is drawn: (kind, text) each."""
+    white = "." * len(above)
+    return [
+        (1, EOL + "1" + alone_bits(above) + EOL + "0"),
+        (1, EOL + "1" + alone_bits(white) + EOL + "0" + by_above_bits(white, above) + EOL + "0"),
+        (2, by_above_bits(white, above)),
+        (2, "1" + by_above_bits(white, above)),
+    ]
+
+
+class Told(Exception):
+    """A fault and its place."""
+
+
+def code_at(bits, place, codes):
+    for code in codes:
+        if bits.startswith(code, place):
+            return code
+    rest = bits[place:]
+    raise Told(-14 if any(code.startswith(rest) for code in codes) else -11, place)
+
+
+def read_run(bits, place, colour, room):
+    length = 0
+    while True:
+        code = code_at(bits, place, SHORT[colour] + LONG[colour])
+        last = code in SHORT[colour]
+        length += SHORT[colour].index(code) if last else 64 * (LONG[colour].index(code) + 1)
+        if length > room:
+            raise Told(-12, place)
+        place += len(code)
+        if last:
+            return length, place
+
+
+def read_alone(bits, place, width):
+    row = ""
+    runs = 0
+    while len(row) < width or runs > width + 3:
+        if runs > width + 3:
+            raise Told(-12, place)
+        length, place = read_run(bits, place, runs % 2, width - len(row))
+        row += ".#"[runs % 2] * length
+        runs += 1
+    return row, place
+
+
+def read_by_above(bits, place, above):
+    width = len(above)
+    row = ""
+    a = -1
+    colour = 0
+    while a < width:
+        way = code_at(bits, place, WAYS)
+        b1 = change_behind(above, a, [1 - colour])
+        b2 = change_behind(above, b1, [0, 1])
+        behind = place + len(way)
+        if way == "0001":
+            to, let = b2, b2 < width
+        elif way == "001":
+            first, behind = read_run(bits, behind, colour, width - len(row))
+            second, behind = read_run(bits, behind, 1 - colour, width - len(row) - first)
+            let = first + second > 0
+            row += ".#"[colour] * first + ".#"[1 - colour] * second
+            to = len(row)
+        else:
+            to = b1 + STRAIGHT[way]
+            let = a < to <= width
+        if not let:
+            raise Told(-12, place)
+        a = to
+        row += ".#"[colour] * (a - len(row))
+        place = behind
+        if way in STRAIGHT:
+            colour = 1 - colour
+    return row, place
+
+
+def end_of_line(bits, place, zeros):
+    """The place behind an end of line, ahead of which so many zeros more are let."""
+    if "1" not in bits[place:] and len(bits) - place <= 11 + zeros:
+        raise Told(-14, place)
+    line = re.compile("0{11,%d}1" % (11 + zeros)).match(bits, place)
+    if line is None:
+        raise Told(-13, place)
+    return line.end()
+
+
+def row_s_tag(kind, bits, place):
+    if kind == 0:
+        return "1", place
+    if place == len(bits):
+        raise Told(-14, place)
+    return bits[place], place + 1
+
+
+def read_lines(kind, width, most, bits):
+    rows = []
+    place = end_of_line(bits, 0, len(bits))
+    tag, place = row_s_tag(kind, bits, place)
+    while not bits.startswith(EOL, place):
+        if len(rows) == most:
+            raise Told(-16, place)
+        if tag == "0" and not rows:
+            raise Told(-13, place - 1)
+        row, place = read_alone(bits, place, width) if tag == "1" else read_by_above(bits, place, rows[-1])
+        rows.append(row)
+        place = end_of_line(bits, place, len(bits))
+        tag, place = row_s_tag(kind, bits, place)
+    lines = 1
+    while tag == "1" and lines < 6:
+        place = end_of_line(bits, place, 0)
+        tag, place = row_s_tag(kind, bits, place)
+        lines += 1
+    if tag == "0":
+        raise Told(-13, place - 1)
+    return rows, place
+
+
+def read_one_by_the_other(width, most, bits):
+    rows = []
+    place = 0
+    while not bits.startswith(EOL + EOL, place):
+        if len(rows) == most:
+            raise Told(-16, place)
+        row, place = read_by_above(bits, place, rows[-1] if rows else "." * width)
+        rows.append(row)
+    return rows, place + 24
+
+
+def reading_of(kind, width, most, data):
+    """What the document's words answer of data, point by point and without any haste."""
+    bits = "".join(format(byte, "08b") for byte in data)
+    try:
+        if kind == 2:
+            rows, place = read_one_by_the_other(width, most, bits)
+        else:
+            rows, place = read_lines(kind, width, most, bits)
+        if len(bits) - place > 7 or "1" in bits[place:]:
+            raise Told(-15, place)
+    except Told as told:
+        return list(told.args)
+    return answer_of_rows(rows)

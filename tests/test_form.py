@@ -19,6 +19,8 @@ methodcaller os quit setattr super type vars sys hash next map filter bytes floa
 BUILT_IN = """len range enumerate zip min max sum abs sorted reversed int str bool list tuple dict set frozenset
 isinstance ord repr any all divmod ValueError KeyError IndexError""".split()
 
+ERRORS_TO_TAKE = "KeyError ZeroDivisionError StopIteration ValueError LookupError IndexError".split()
+
 METHODS = """append clear copy count endswith extend find get index insert isalnum isalpha isdigit islower isspace
 isupper items join keys ljust lower lstrip partition pop remove replace reverse rfind rjust rpartition rsplit
 rstrip setdefault split splitlines startswith strip update upper values zfill bit_length""".split()
@@ -30,6 +32,9 @@ FORMS_OUT = (
 )
 
 
+TWO_UNDERSCORES = "__init__ __eq__ __repr__ __str__ __len__".split()
+
+
 def sources():
     for path in sorted(FOLDER.rglob("*.py")):
         yield path.name, path.read_text(encoding="utf-8")
@@ -38,6 +43,22 @@ def sources():
 def trees():
     for name, text in sources():
         yield name, ast.parse(text)
+
+
+def classes():
+    return [node for name, tree in trees() for node in ast.walk(tree) if isinstance(node, ast.ClassDef)]
+
+
+def own_methods():
+    return {node.name for made in classes() for node in made.body if isinstance(node, ast.FunctionDef)}
+
+
+def own_values():
+    """What objects of the package keep."""
+    return {
+        node.attr for made in classes() for node in ast.walk(made)
+        if isinstance(node, ast.Attribute) and isinstance(node.ctx, ast.Store)
+    }
 
 
 class Form(unittest.TestCase):
@@ -85,7 +106,7 @@ class Form(unittest.TestCase):
 
     def test_names(self):
         for name, tree in trees():
-            made = {node.name for node in ast.walk(tree) if isinstance(node, ast.FunctionDef)}
+            made = {node.name for node in ast.walk(tree) if isinstance(node, (ast.FunctionDef, ast.ClassDef))}
             drawn = {a.name for node in ast.walk(tree) if isinstance(node, ast.ImportFrom) for a in node.names}
             for node in ast.walk(tree):
                 if isinstance(node, ast.Name):
@@ -96,7 +117,40 @@ class Form(unittest.TestCase):
                     if isinstance(node.func, ast.Name):
                         self.assertIn(node.func.id, made | drawn | set(BUILT_IN), name)
                     else:
-                        self.assertIn(node.func.attr, METHODS, name)
+                        self.assertIn(node.func.attr, METHODS + TWO_UNDERSCORES + sorted(own_methods()), name)
+
+    def test_classes(self):
+        names = [made.name for made in classes()]
+        self.assertEqual(len(names), len(set(names)))
+        for made in classes():
+            self.assertEqual((made.decorator_list, made.keywords), ([], []), made.name)
+            self.assertLessEqual(len(made.bases), 1, made.name)
+            for base in made.bases:
+                self.assertIn(base.id, names + ["Exception", "ValueError"], made.name)
+            methods = [node.name for node in made.body if isinstance(node, ast.FunctionDef)]
+            self.assertEqual(len(methods), len(set(methods)), made.name)
+            for node in made.body:
+                said = isinstance(node, ast.Expr) and isinstance(node.value, ast.Constant)
+                self.assertTrue(said or isinstance(node, ast.FunctionDef), made.name)
+
+    def test_methods_and_values(self):
+        ours = own_methods() - set(TWO_UNDERSCORES)
+        self.assertEqual(own_values() & ours, set())
+        for kind in (str, int, list, dict, set, bytes, tuple):
+            self.assertEqual((own_values() | ours) & set(dir(kind)), set())
+        for name in own_values() | ours:
+            self.assertRegex(name, r"^[A-Za-z][A-Za-z0-9_]*$")
+
+    def test_errors_are_raised_and_taken_by_name(self):
+        names = [made.name for made in classes()]
+        for name, tree in trees():
+            for node in ast.walk(tree):
+                if isinstance(node, ast.Raise):
+                    self.assertIn(node.exc.func.id, names, name)
+                if isinstance(node, ast.Try):
+                    self.assertEqual(node.finalbody, [], name)
+                if isinstance(node, ast.ExceptHandler):
+                    self.assertIn(node.type.id, names + ERRORS_TO_TAKE, name)
 
 
 if __name__ == "__main__":
