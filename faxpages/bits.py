@@ -14,9 +14,8 @@ def bit_text(data):
     return "".join([FOUR_BITS[byte >> 4] + FOUR_BITS[byte & 15] for byte in data])
 
 
+# Bits as a text, and the place of the one that is read next.
 class Bits:
-    """Bits as a text, and the place of the one that is read next."""
-
     def __init__(self, data):
         self.text = bit_text(data)
         self.place = 0

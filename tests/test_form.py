@@ -130,8 +130,7 @@ class Form(unittest.TestCase):
             methods = [node.name for node in made.body if isinstance(node, ast.FunctionDef)]
             self.assertEqual(len(methods), len(set(methods)), made.name)
             for node in made.body:
-                said = isinstance(node, ast.Expr) and isinstance(node.value, ast.Constant)
-                self.assertTrue(said or isinstance(node, ast.FunctionDef), made.name)
+                self.assertIsInstance(node, ast.FunctionDef, made.name)
 
     def test_methods_and_values(self):
         ours = own_methods() - set(TWO_UNDERSCORES)
